@@ -1,0 +1,1 @@
+"""Signalgraph: gates of yes and no, settled and stepped."""
