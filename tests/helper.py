@@ -170,4 +170,50 @@ def check_refused(test, error, function, *args):
     test.assertIs(type(caught.exception), error)
     test.assertIsInstance(caught.exception, SignalError)
     test.assertIsInstance(caught.exception, ValueError)
-    test.assertEqual(args, before)
+    check_same(test, args, before)
+
+
+def kinds_of(value):
+    """The classes of a value and, for a list or a tuple, of all that is in it."""
+    if isinstance(value, (list, tuple)):
+        return (type(value), [kinds_of(part) for part in value])
+    return type(value)
+
+
+def check_same(test, given, told):
+    """Both are the same. Where great lists are not, assertEqual would take minutes to tell why."""
+    if given != told:
+        test.fail(f"given {repr(given)[:500]} but told {repr(told)[:500]}")
+
+
+def check_told(test, told, function, *args):
+    """The call gives just what is told, and leaves what it was handed as it was."""
+    before = deepcopy(args)
+    given = function(*args)
+    check_same(test, given, told)
+    check_same(test, kinds_of(given), kinds_of(told))
+    check_same(test, args, before)
+
+
+def spoil(value):
+    """Change all lists in the value, as an asker may."""
+    if isinstance(value, (list, tuple)):
+        for part in value:
+            spoil(part)
+    if isinstance(value, list):
+        value.reverse()
+        value.append("spoilt")
+
+
+def check_apart(test, function, *args):
+    """What the call gives has nothing to do with what it was handed or with what it gave before."""
+    before = deepcopy(args)
+    first = function(*args)
+    told = deepcopy(first)
+    second = function(*args)
+    spoil(first)
+    check_same(test, args, before)
+    check_same(test, second, told)
+    check_same(test, function(*args), told)
+    spoil(args)
+    check_same(test, second, told)

@@ -7,6 +7,7 @@ from itertools import product
 from signalgraph.errors import NoDelay, NoKind, NoLine, NoSize, NoSources
 from signalgraph.plans import checked, trimmed
 from tests.helper import FAR, TAKES, check_refused, right_gates, wrong_plans
+from tests.plain import mixed_plan, row_of_gates
 
 
 def plainly_trimmed(plan, outs):
@@ -25,31 +26,6 @@ def plainly_trimmed(plan, outs):
         if many + at in stays:
             left.append((kind, tuple(stay.index(source) for source in sources), delay))
     return ((many, left), stay)
-
-
-def row_of_gates(many, length):
-    """A plan of gates in a row, one hanging on the other."""
-    return (many, [("keep", (many + at - 1,), 1 + at % 60) for at in range(length)])
-
-
-def plain_numbers(seed):
-    """Numbers without end that look mixed, the same ones for the same seed."""
-    while True:
-        seed = (seed * 1103515245 + 12345) % 2 ** 31
-        yield seed >> 12
-
-
-def mixed_plan(seed, many, length):
-    """A plan of all kinds of gates, the same one for the same seed."""
-    numbers = plain_numbers(seed)
-    kinds = sorted(TAKES)
-    gates = []
-    for _ in range(length):
-        kind = kinds[next(numbers) % len(kinds)]
-        takes = TAKES[kind][next(numbers) % min(3, len(TAKES[kind]))]
-        sources = tuple(next(numbers) % (many + length) for _ in range(takes))
-        gates.append((kind, sources, 1 + next(numbers) % 60))
-    return (many, gates)
 
 
 class TrimmedTest(unittest.TestCase):
